@@ -1,0 +1,1 @@
+"""Marblehall: a marble run builder's bench."""
