@@ -61,7 +61,7 @@ def digits_token(row, place):
 
 
 def scan(text):
-    """The tokens of a text, up to its end or the first byte of what is no token."""
+    """The tokens of a text, what is no token among them, and its end."""
     tokens = []
     place = 0
     while place < len(text):
