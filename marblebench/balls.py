@@ -49,11 +49,17 @@ def send_on(part, number, count, came):
         left -= 1
 
 
-def came_to(board, numbers, balls):
-    """How often each part is come to when so many balls are let go at each hopper."""
+def at_hoppers(board, balls):
+    """How many balls come to each part straight from hoppers when so many are let go at each of these."""
     came = [0 for part in board.parts]
     for hopper, count in zip(board.hoppers, balls):
         came[hopper.part] += count
+    return came
+
+
+def came_to(board, numbers, balls):
+    """How often each part is come to when so many balls are let go at each hopper."""
+    came = at_hoppers(board, balls)
     for place in range(len(board.parts) - 1, -1, -1):
         part = board.parts[place]
         if part.kind != "tray" and came[place] > 0:

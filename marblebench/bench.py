@@ -1,7 +1,14 @@
 """The list of calls, answered one behind another."""
 
+from marblebench.bench_calls import answer_on_bench
 from marblebench.calls import answer_call
-from marblebench.refusals import NeverSo, NoBoard, NotThere, TooLarge, TooMany, WrongCount
+from marblebench.history import Bench
+from marblebench.refusals import (
+    NeverSo, NoBoard, NothingLaid, NotThere, OutOfBounds, TooLate, TooMany, WrongCount,
+)
+
+# The calls up to this one have nothing to do with the bench.
+LAST_WITHOUT_BENCH = 14
 
 # Of each call: how many whole numbers it has, and how many rows behind them.
 SHAPES = {
@@ -17,6 +24,17 @@ SHAPES = {
     10: (2, 1),
     11: (1, 2),
     12: (0, 2),
+    13: (0, 1),
+    14: (0, 4),
+    15: (0, 1),
+    16: (2, 0),
+    17: (2, 0),
+    18: (1, 0),
+    19: (0, 0),
+    20: (0, 0),
+    21: (0, 1),
+    22: (1, 0),
+    23: (0, 0),
 }
 
 
@@ -30,10 +48,12 @@ def rows_from(calls, place, count):
     return rows
 
 
-def answer_or_refusal(call, numbers, rows):
+def answer_or_refusal(bench, call, numbers, rows):
     try:
-        return answer_call(call, numbers, rows)
-    except TooLarge:
+        if call <= LAST_WITHOUT_BENCH:
+            return answer_call(call, numbers, rows)
+        return answer_on_bench(bench, call, numbers, rows)
+    except OutOfBounds:
         return [-1]
     except NoBoard:
         return [-2]
@@ -45,10 +65,15 @@ def answer_or_refusal(call, numbers, rows):
         return [-6]
     except NeverSo:
         return [-7]
+    except NothingLaid:
+        return [-8]
+    except TooLate:
+        return [-9]
 
 
 def answers(calls):
-    """For each call, in order, how many numbers are answered, then these."""
+    """For each call on a new bench, in order, how many numbers are answered, then these."""
+    bench = Bench()
     told = []
     place = 0
     while place < len(calls):
@@ -58,7 +83,7 @@ def answers(calls):
         numbers = calls[place + 1:behind]
         rows = rows_from(calls, behind, shape[1])
         place = behind + sum([1 + len(row) for row in rows])
-        answer = answer_or_refusal(call, numbers, rows)
+        answer = answer_or_refusal(bench, call, numbers, rows)
         told.append(len(answer))
         told.extend(answer)
     return told

@@ -42,6 +42,17 @@ def parts_of_kind(board, kind):
     return [number for number, part in enumerate(board.parts) if part.kind == kind]
 
 
+def with_numbers_told(board, numbers):
+    """The board with these numbers at first, told of every wheel and gate; no text tells a tray's."""
+    parts = []
+    for part, number in zip(board.parts, numbers):
+        if part.kind == "tray":
+            parts.append(part)
+        else:
+            parts.append(Part(part.kind, part.name, part.ways, part.turn, number, True))
+    return Board(parts, board.hoppers)
+
+
 def part_tokens(board, part):
     names = [board.parts[way].name for way in part.ways]
     if part.kind == "tray":

@@ -1,43 +1,18 @@
 """The calls on texts of boards: each takes its whole numbers and its rows, and tells the numbers it answers."""
 
 from marblebench.balls import came_to, first_numbers, let_all_go, let_go, numbers_behind
+from marblebench.bare import bare_board
 from marblebench.board import parts_of_kind, printed
+from marblebench.checks import (
+    MOST_BYTES, board_of, boards_of, check_below, check_count, check_most, check_tray, counted,
+)
 from marblebench.compare import comparable, ever_apart, first_apart
+from marblebench.lifts import account, check_lifts
 from marblebench.reading import Fault, read_board
-from marblebench.refusals import NeverSo, NoBoard, NotThere, TooLarge, WrongCount
+from marblebench.refusals import NeverSo, NotThere
 from marblebench.turns import again, share
 
-MOST_BYTES = 16384
 MOST_LET = 2000
-
-
-def check_most(number, most):
-    if number > most:
-        raise TooLarge()
-
-
-def check_below(number, bound):
-    if number >= bound:
-        raise NotThere()
-
-
-def counted(row):
-    """A list as it's answered: how many it has, then these."""
-    return [len(row)] + row
-
-
-def board_of(text):
-    check_most(len(text), MOST_BYTES)
-    try:
-        return read_board(text)
-    except Fault:
-        raise NoBoard() from None
-
-
-def boards_of(text, other):
-    # A text that's too long counts before one that's no board's.
-    check_most(len(other), MOST_BYTES)
-    return (board_of(text), board_of(other))
 
 
 def tell_fault(numbers, rows):
@@ -83,8 +58,7 @@ def tell_falls(numbers, rows):
 def board_for_balls(rows):
     """The board of many and came, once all that refuses these is looked at."""
     board = board_of(rows[0])
-    if len(rows[1]) != len(board.hoppers):
-        raise WrongCount()
+    check_count(rows[1], len(board.hoppers))
     return board
 
 
@@ -125,8 +99,7 @@ def tell_until(numbers, rows):
 def tell_share(numbers, rows):
     board = board_of(rows[0])
     check_below(numbers[0], len(board.hoppers))
-    if numbers[1] not in parts_of_kind(board, "tray"):
-        raise NotThere()
+    check_tray(board, numbers[1])
     return list(share(board, numbers[0], numbers[1]))
 
 
@@ -148,6 +121,21 @@ def tell_ever(numbers, rows):
     return [ever_apart(boards[0], boards[1])]
 
 
+def print_bare(numbers, rows):
+    return counted(printed(bare_board(board_of(rows[0]))))
+
+
+def tell_proof(numbers, rows):
+    board = board_of(rows[0])
+    lifts = rows[1]
+    balls = rows[2]
+    came = rows[3]
+    check_lifts(board, lifts)
+    check_count(balls, len(board.hoppers))
+    check_count(came, len(board.parts))
+    return [1 if account(board, lifts, balls, came) == came else 0]
+
+
 CALLS = {
     1: tell_fault,
     2: print_board,
@@ -161,6 +149,8 @@ CALLS = {
     10: tell_share,
     11: tell_apart,
     12: tell_ever,
+    13: print_bare,
+    14: tell_proof,
 }
 
 

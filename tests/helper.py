@@ -1,11 +1,14 @@
 """What the tests share: calls as lists of numbers, boards by chance, and a plain model to compare with."""
 
+import copy
 import random
 
 from marblebench.bench import answers
 
 TEXT_MOST = 16384
 BIGGEST = 1152921504606846975
+BALLS_BOUND = 2 ** 40
+NONE = 255
 PLAIN = "board; tray a; tray b; wheel w a b; hopper h w;"
 TWO = "board; tray a; tray b; wheel w a b; gate g 3 w; hopper h w; hopper k g;"
 
@@ -63,6 +66,50 @@ def ever(t, u):
     return [12] + row(t) + row(u)
 
 
+def bare(t):
+    return [13] + row(t)
+
+
+def proof(t, lifts, balls, numbers):
+    return [14] + row(t) + row(lifts) + row(balls) + row(numbers)
+
+
+def lay(t):
+    return [15] + row(t)
+
+
+def lift(p, h):
+    return [16, p, h]
+
+
+def drop(h, k):
+    return [17, h, k]
+
+
+def go(most):
+    return [18, most]
+
+
+def back():
+    return [19]
+
+
+def stands():
+    return [20]
+
+
+def account(numbers):
+    return [21] + row(numbers)
+
+
+def loop(most):
+    return [22, most]
+
+
+def text():
+    return [23]
+
+
 def ask_all(*calls):
     """The answers of several calls, handed in as one list, parted again by the counts before them."""
     flat = [number for call in calls for number in call]
@@ -79,6 +126,30 @@ def ask_all(*calls):
 
 def ask(call):
     return ask_all(call)[0]
+
+
+def last(*calls):
+    """What the last of several calls on one bench answers."""
+    return ask_all(*calls)[-1]
+
+
+def lists(answer):
+    """The lists of an answer, each without the count before it."""
+    parted = []
+    place = 0
+    while place < len(answer):
+        parted.append(answer[place + 1:place + 1 + answer[place]])
+        place += 1 + answer[place]
+    if place != len(answer):
+        raise AssertionError("no lists: %r" % (answer,))
+    return parted
+
+
+def as_text(answer):
+    """An answered text, without the count that must stand before it."""
+    if answer[0] != len(answer) - 1:
+        raise AssertionError("no count before a text: %r" % (answer,))
+    return bytes(answer[1:]).decode("ascii")
 
 
 def ask_list(call):
@@ -173,3 +244,70 @@ class Model:
     def let(self, hoppers):
         for hopper in hoppers:
             self.comes(self.hoppers[hopper])
+
+
+class PlainBench:
+    """The bench with one board by chance laid, just as the document tells it: its rounds ball by ball.
+
+    It takes good calls alone; nothing is taken back here.
+    """
+
+    def __init__(self, model):
+        self.model = copy.deepcopy(model)
+        self.model.restart()
+        self.lifts = [NONE] * len(model.parts)
+        self.waiting = [0] * len(model.hoppers)
+        self.dropped = [0] * len(model.hoppers)
+
+    def stands(self):
+        """As stands answers it."""
+        rows = [self.model.numbers, self.waiting, self.model.came, self.dropped, self.lifts]
+        return [number for told in rows for number in row(told)]
+
+    def alike(self):
+        """What a loop comes back to."""
+        return (list(self.model.numbers), list(self.waiting))
+
+    def rests(self):
+        return sum(self.waiting) == 0
+
+    def lift(self, tray, hopper):
+        self.lifts[tray] = hopper
+
+    def drop(self, hopper, balls):
+        self.waiting[hopper] += balls
+        self.dropped[hopper] += balls
+
+    def play_round(self):
+        balls = [hopper for hopper, count in enumerate(self.waiting) for ball in range(count)]
+        self.waiting = [0] * len(self.waiting)
+        self.model.let(balls)
+        for tray, hopper in enumerate(self.lifts):
+            if hopper != NONE:
+                self.waiting[hopper] += self.model.numbers[tray]
+                self.model.numbers[tray] = 0
+
+    def go(self, most):
+        for done in range(most):
+            if not self.rests():
+                self.play_round()
+        return [1 if self.rests() else 0]
+
+    def text(self):
+        told = copy.deepcopy(self.model)
+        told.parts = [(kind, ways, turn, None if kind == "tray" else number)
+                      for (kind, ways, turn, first), number in zip(told.parts, told.numbers)]
+        return told.text().replace(" ;", ";").replace("; ", ";\n") + "\n"
+
+
+def lifts_by_chance(model, chance):
+    """Of each part a lift's hopper or none; some of the trays have lifts."""
+    lifts = [NONE] * len(model.parts)
+    for tray in model.trays():
+        if chance.random() < 0.6:
+            lifts[tray] = chance.randrange(len(model.hoppers))
+    return lifts
+
+
+def lift_calls(lifts):
+    return [lift(tray, hopper) for tray, hopper in enumerate(lifts) if hopper != NONE]
